@@ -127,6 +127,12 @@ func checkWebAnswer(t *testing.T, what string, call func() (impl.Web, int), args
 	if !reflect.DeepEqual(before, snapshot(args...)) {
 		t.Errorf("%s: an argument was written into", what)
 	}
+	checkMemory(t, what, got, args...)
+}
+
+// checkMemory: an answer shares no memory with an argument, nor one part of it with another.
+func checkMemory(t *testing.T, what string, got any, args ...any) {
+	t.Helper()
 	mine := pieces(reflect.ValueOf(got))
 	for _, a := range args {
 		if overlap(mine, pieces(reflect.ValueOf(a))) {
