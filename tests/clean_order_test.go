@@ -15,6 +15,7 @@ type job struct {
 	at     int
 	units  int
 	texts  []string
+	asked  []string
 	over   bool
 	answer impl.Answer
 }
@@ -122,6 +123,7 @@ func (x *jobs) do(name string) {
 	}
 	for _, ask := range j.asks() {
 		x.want(ask)
+		j.asked = append(j.asked, ask)
 	}
 }
 

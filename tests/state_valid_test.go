@@ -29,10 +29,16 @@ func checkRefused(t *testing.T, what string, w impl.Web, s impl.State) {
 	if got := impl.Ready(w, s); len(got) != 0 {
 		t.Errorf("%s: ready %q", what, got)
 	}
-	for _, name := range []string{"a", "b", "c", "gone", ""} {
+	for _, name := range []string{"a", "b", "c", "f", "gone", ""} {
 		if got := impl.Do(w, s, name); len(got.Roots) != 0 || len(got.Runs) != 0 {
 			t.Errorf("%s: done %s", what, name)
 		}
+		if got := slices.Concat(impl.Waits(w, s, name), impl.Uses(w, s, name), impl.Why(w, s, name)); len(got) != 0 {
+			t.Errorf("%s: of %s %q", what, name, got)
+		}
+	}
+	if got := append(impl.Circle(w, s), impl.Stuck(w, s)...); len(got) != 0 {
+		t.Errorf("%s: a circle %q", what, got)
 	}
 	checkNothing(t, what, impl.Told(w, s))
 }
