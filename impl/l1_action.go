@@ -228,7 +228,7 @@ func Finish(give string, texts []string) string {
 	}
 	whole := give + "(" + strings.Join(texts, ",") + ")"
 	if longText(whole) {
-		return "#" + digits(sum(whole))
+		return "#" + digits(sum(whole), sumDigits)
 	}
 	return whole
 }
@@ -242,7 +242,8 @@ func sum(text string) uint64 {
 	return total
 }
 
-func digits(number uint64) string {
+// digits gives a number in so many of the digits 0-9a-f, which must be enough for it.
+func digits(number uint64, size int) string {
 	short := strconv.FormatUint(number, 16)
-	return strings.Repeat("0", sumDigits-len(short)) + short
+	return strings.Repeat("0", size-len(short)) + short
 }

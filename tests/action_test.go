@@ -50,13 +50,16 @@ func TestNamesOfAsks(t *testing.T) {
 	}
 }
 
-func TestValidSteps(t *testing.T) {
+// stepCase is a step of an action with three steps, and whether it is valid.
+type stepCase struct {
+	step impl.Step
+	want bool
+}
+
+func stepCases() []stepCase {
 	asks := func(n int) []string { return make1(n, nameNo) }
 	cases := func(n int) []impl.Case { return make([]impl.Case, n) }
-	for i, c := range []struct {
-		step impl.Step
-		want bool
-	}{
+	return []stepCase{
 		{end(""), true},
 		{end(rep(impl.MaxGive)), true},
 		{end(rep(impl.MaxGive + 1)), false},
@@ -98,7 +101,11 @@ func TestValidSteps(t *testing.T) {
 		{impl.Step{Fall: 3}, false},
 		{impl.Step{Fall: -1}, true},
 		{impl.Step{Fall: -2}, false},
-	} {
+	}
+}
+
+func TestValidSteps(t *testing.T) {
+	for i, c := range stepCases() {
 		if impl.ValidAction(one(c.step)) != c.want {
 			t.Errorf("case %d, as the first step", i)
 		}
